@@ -1,0 +1,1 @@
+"""From what is to what's wanted, whole."""
