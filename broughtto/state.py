@@ -69,6 +69,21 @@ class State:
         self.wishes.pop(name)
         return DONE
 
+    def look(self, number):
+        if number not in self.things:
+            return [NOT_FOUND]
+        thing = self.things[number]
+        return [DONE, thing.name, thing.kind, thing.value] + thing.uses
+
+    def twin(self):
+        # A thing is never changed itself, another one comes in its place: so both may hold the same things.
+        other = State()
+        other.things = dict(self.things)
+        other.wishes = dict(self.wishes)
+        other.modes = list(self.modes)
+        other.came = self.came
+        return other
+
     def is_full(self):
         return len(self.things) >= MOST_THINGS or self.came >= MOST_CAME
 

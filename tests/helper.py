@@ -6,6 +6,9 @@ from broughtto.house import answers
 
 HIGHEST = 4294967295
 BEGIN = [0]
+NEXT = [5]
+DO = [6]
+STEPS = [7]
 
 
 def mode(kind, m):
@@ -22,6 +25,14 @@ def want(name=0, kind=0, value=0, needs=()):
 
 def unwant(name):
     return [4, name]
+
+
+def look(number):
+    return [8, number]
+
+
+def right(name):
+    return [9, name]
 
 
 def line(calls):
@@ -42,9 +53,26 @@ def told(calls):
     return found
 
 
+def told_last(calls, asked):
+    """What the asked calls answer behind a begin and the others."""
+    return told([BEGIN] + list(calls) + list(asked))[-len(asked):]
+
+
+def seen(calls):
+    """All that can be seen behind these calls: each thing, each right thing, the steps, the number that's given next."""
+    asked = [look(number) for number in range(80)] + [right(name) for name in range(33)] + [NEXT, STEPS, there()]
+    return told_last(calls, asked)
+
+
 class CallsCase(unittest.TestCase):
     def expect(self, *pairs):
-        """Each pair is a call and the one number that it is to answer, behind a begin."""
-        calls = [BEGIN] + [call for call, number in pairs]
-        wanted = [[0]] + [[number] for call, number in pairs]
+        """Each pair is a call and what it is to answer, one number or a list of them, behind a begin."""
+        calls = [BEGIN] + [call for call, answer in pairs]
+        wanted = [[0]] + [[answer] if isinstance(answer, int) else answer for call, answer in pairs]
         self.assertEqual(told(calls), wanted)
+
+    def expect_last(self, calls, *pairs):
+        """As expect, behind calls whose answers are of no matter but that none of them is refused."""
+        before = told([BEGIN] + list(calls))
+        self.assertGreaterEqual(min(answer[0] for answer in before), 0)
+        self.expect(*zip(calls, before[1:]), *pairs)

@@ -3,7 +3,7 @@
 import unittest
 
 from broughtto.state import State
-from helper import BEGIN, CallsCase, mode, there, told, unwant, want
+from helper import BEGIN, DO, NEXT, STEPS, CallsCase, mode, right, seen, there, told, unwant, want
 
 
 class BeginTest(CallsCase):
@@ -40,6 +40,21 @@ class BeginTest(CallsCase):
         self.assertEqual(state.modes, [0] * 16)
         self.assertEqual(state.things, {})
         self.assertEqual(state.wishes, {})
+
+    def test_each_kinds_mode_is_nought_afterwards(self):
+        for kind in range(16):
+            for m in (1, 2):
+                self.expect((mode(kind, m), 0), (BEGIN, 0), (there(1, kind, 3), 0), (want(1, kind, 4), 0),
+                            (NEXT, [2, 0, 4]))
+
+    def test_in_the_midst_of_steps(self):
+        calls = [mode(0, 2), there(1), there(2, uses=[0]), want(1, value=5), want(3, needs=[1]), STEPS, DO, right(1)]
+        self.assertEqual(seen(calls + [BEGIN]), seen([]))
+        self.assertEqual(seen(calls + [BEGIN] + calls), seen(calls))
+
+    def test_after_wishes_that_cannot_be(self):
+        self.expect((want(1, needs=[1]), 0), (NEXT, -41), (BEGIN, 0), (NEXT, 0),
+                    (want(1, needs=[2]), 0), (NEXT, -61), (BEGIN, 0), (STEPS, 0), (DO, 0))
 
     def test_in_the_midst_after_refusals(self):
         self.expect((mode(16, 0), -22), (there(uses=[5]), -2), (BEGIN, 0), (there(), 0))

@@ -93,6 +93,40 @@ class TreeTest(unittest.TestCase):
         for path, node in nodes(ast.Assign):
             self.assertEqual(len(node.targets), 1, f"{path}: {node.lineno}")
 
+    def test_each_import_is_from_the_file_that_defines_it_and_none_goes_round(self):
+        drawn = {path.stem: set() for path in FILES}
+        defined = {path.stem: {inner.name for inner in tree.body if hasattr(inner, "name")}
+                   | {inner.targets[0].id for inner in tree.body if isinstance(inner, ast.Assign)}
+                   for path, tree in trees()}
+        for path, node in nodes(ast.ImportFrom):
+            source = node.module.split(".")[1]
+            drawn[path.stem].add(source)
+            self.assertLessEqual({alias.name for alias in node.names}, defined[source], path)
+        while drawn:
+            free = [stem for stem in drawn if not drawn[stem] & set(drawn)]
+            self.assertTrue(free, f"round: {sorted(drawn)}")
+            drawn = {stem: drawn[stem] for stem in drawn if stem not in free}
+
+    def test_no_local_is_called_like_a_class_or_an_import_of_its_file(self):
+        for path, tree in trees():
+            taken = {inner.name for inner in tree.body if isinstance(inner, ast.ClassDef)}
+            taken |= {alias.name for inner in tree.body if isinstance(inner, ast.ImportFrom) for alias in inner.names}
+            stored = {node.id for node in ast.walk(tree) if isinstance(node, ast.Name) and isinstance(node.ctx, ast.Store)}
+            stored |= {node.arg for node in ast.walk(tree) if isinstance(node, ast.arg)}
+            self.assertFalse(taken & stored, path)
+
+    def test_is_stands_beside_none_true_and_false_alone(self):
+        for path, node in nodes(ast.Compare):
+            if isinstance(node.ops[0], (ast.Is, ast.IsNot)):
+                sides = [side.value for side in (node.left, node.comparators[0]) if isinstance(side, ast.Constant)]
+                self.assertTrue(any(side in (None, True, False) for side in sides), f"{path}: {node.lineno}")
+
+    def test_what_is_walked_is_not_kept(self):
+        for path, node in nodes((ast.Assign, ast.Return)):
+            if isinstance(node.value, ast.Call):
+                name = getattr(node.value.func, "id", getattr(node.value.func, "attr", None))
+                self.assertNotIn(name, ("zip", "enumerate", "reversed", "range", "items", "keys", "values", "set"), path)
+
     def test_methods_are_own_or_listed(self):
         own = {inner.name for path, node in nodes(ast.ClassDef) for inner in node.body if hasattr(inner, "name")}
         kept = {node.attr for path, node in nodes(ast.Attribute) if isinstance(node.ctx, ast.Store)}
